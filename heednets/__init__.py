@@ -1,0 +1,1 @@
+"""Heednets: cells that heed one another, and the pictures that they keep."""

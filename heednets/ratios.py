@@ -1,0 +1,35 @@
+"""Fractions: pairs (n, m) of whole numbers without a common divisor above 1, m above 0."""
+from math import gcd, lcm
+
+
+def is_whole(value):
+    # To Python True and False are numbers, too; here they are not.
+    return isinstance(value, int) and not isinstance(value, bool)
+
+
+def is_fraction(value):
+    if not isinstance(value, tuple) or len(value) != 2:
+        return False
+    above, below = value
+    return is_whole(above) and is_whole(below) and below > 0 and gcd(above, below) == 1
+
+
+def are_fractions(value, many):
+    """Whether a value is a row of so many fractions."""
+    if not isinstance(value, tuple) or len(value) != many:
+        return False
+    return all(is_fraction(part) for part in value)
+
+
+def ratio(above, below):
+    """The fraction above / below, of whole numbers, the second one above 0."""
+    shared = gcd(above, below)
+    return (above // shared, below // shared)
+
+
+def as_wholes(fractions):
+    """The fractions, all times one number above 0 that makes them whole; and this number."""
+    times = 1
+    for _, below in fractions:
+        times = lcm(times, below)
+    return [above * (times // below) for above, below in fractions], times

@@ -1,0 +1,186 @@
+"""A plain second reckoning of nets, sample nets, and what several tests share."""
+import inspect
+import random
+from fractions import Fraction
+from itertools import product
+
+NIL, ONE, TWO, HALF, LESS = (0, 1), (1, 1), (2, 1), (1, 2), (-1, 1)
+PALS = (((NIL, ONE), (ONE, NIL)), (HALF, HALF))
+CHASE = (((NIL, ONE), (LESS, NIL)), (HALF, (-1, 2)))
+LAME = (((NIL, TWO), (ONE, NIL)), (HALF, HALF))
+TURN = (((NIL, TWO, ONE), (ONE, NIL, ONE), (ONE, ONE, NIL)), (HALF, HALF, HALF))
+WHEEL = (((NIL, NIL, LESS), (ONE, NIL, NIL), (NIL, ONE, NIL)), ((-1, 2), HALF, HALF))
+SHY = (((NIL,),), (HALF,))
+BOLD = (((NIL,),), ((-1, 2),))
+
+
+def deep(levels):
+    value = ()
+    for _ in range(levels):
+        value = (value,)
+    return value
+
+
+# Nothing of this is a net, a state, a cell, a number, a row of cells, heights, a round or scales.
+STRANGE = (None, True, False, "", "ab", b"ab", [], {}, set(), frozenset(), object(), len, int, NotImplemented,
+           deep(60), [[0, 1]], "rest", {0: 1}, range(2), -1, 10 ** 300, (None, None), ((), ()), ("", ""), 1 + 2j)
+
+
+def pair(number):
+    number = Fraction(number)
+    return (number.numerator, number.denominator)
+
+
+def number(fraction):
+    return Fraction(*fraction)
+
+
+def net_from(weights, marks):
+    """A net from rows of what Fraction takes."""
+    return (tuple(tuple(pair(w) for w in row) for row in weights), tuple(pair(m) for m in marks))
+
+
+def quiet(many):
+    """A net of so many cells that heed nobody."""
+    return net_from([[0] * many for _ in range(many)], [0] * many)
+
+
+def states_of(many):
+    """All states, ascending by their numbers."""
+    return [state[::-1] for state in product((0, 1), repeat=many)]
+
+
+def hears(net, cell, state):
+    return sum((number(net[0][cell][j]) for j in range(len(state)) if state[j] == 1), Fraction(0))
+
+
+def wants(net, state):
+    return tuple(1 if hears(net, i, state) > number(net[1][i]) else 0 for i in range(len(state)))
+
+
+def flipped(state, cell):
+    return tuple(1 - on if i == cell else on for i, on in enumerate(state))
+
+
+def leads(net, state):
+    """The states to which one move leads."""
+    wish = wants(net, state)
+    return [flipped(state, i) for i in range(len(state)) if wish[i] != state[i]]
+
+
+def reach(net, state):
+    """All states that are come to, as a set."""
+    seen, waiting = {state}, [state]
+    while waiting:
+        for behind in leads(net, waiting.pop()):
+            if behind not in seen:
+                seen.add(behind)
+                waiting.append(behind)
+    return seen
+
+
+def on_a_round(net, state):
+    return any(state in reach(net, behind) for behind in leads(net, state))
+
+
+def longest(net, state):
+    """The greatest number of moves from a state, by trying all; None without an end."""
+    if any(on_a_round(net, met) for met in reach(net, state)):
+        return None
+    return max((1 + longest(net, behind) for behind in leads(net, state)), default=0)
+
+
+def random_net(rng, many, low=-2, high=2, below=2):
+    """A net with small numbers, so that sums often just meet the marks."""
+    def any_number():
+        return Fraction(rng.randint(low * below, high * below), rng.randint(1, below))
+    return net_from([[0 if i == j else any_number() for j in range(many)] for i in range(many)],
+                    [any_number() for _ in range(many)])
+
+
+def random_scaled(rng, many, low=-2, high=2):
+    """A net with scales, its scales by chance, some heeds 0."""
+    scales = [Fraction(rng.randint(1, 4), rng.randint(1, 3)) for _ in range(many)]
+    ties = {}
+    for i in range(many):
+        for j in range(i):
+            ties[i, j] = ties[j, i] = rng.choice([0, Fraction(rng.randint(low * 2, high * 2), 2)])
+    return net_from([[0 if i == j else ties[i, j] / scales[i] for j in range(many)] for i in range(many)],
+                    [Fraction(rng.randint(-6, 6), 2) for _ in range(many)])
+
+
+def sample_nets(seed, times, most=4):
+    """Sample nets of one to MOST cells, with scales and without; the same ones each time."""
+    rng = random.Random(seed)
+    named = [PALS, CHASE, LAME, TURN, WHEEL, SHY, BOLD]
+    made = []
+    for _ in range(times):
+        many = rng.randint(1, most)
+        made.append(random_net(rng, many))
+        made.append(random_scaled(rng, many))
+    return named + made
+
+
+def wrong_nets():
+    """Values that are no nets, most of them nearly nets."""
+    nine = quiet(8)
+    wrong = [
+        (), (PALS,), PALS + (HALF,), list(PALS), (list(PALS[0]), PALS[1]), (PALS[0], list(PALS[1])),
+        ((list(PALS[0][0]), PALS[0][1]), PALS[1]), (((NIL, [1, 1]), (ONE, NIL)), (HALF, HALF)),
+        ((), ()), (PALS[0], (HALF,)), (PALS[0], (HALF, HALF, HALF)), (PALS[0][:1], (HALF,)), (PALS[0][:1], PALS[1]),
+        (((NIL, ONE), (ONE,)), (HALF, HALF)), (((NIL, ONE), (ONE, NIL), (ONE, NIL)), (HALF, HALF)),
+        (((NIL, ONE, NIL), (ONE, NIL, NIL)), (HALF, HALF)),
+        (((ONE, ONE), (ONE, NIL)), (HALF, HALF)), (((NIL, ONE), (ONE, LESS)), (HALF, HALF)),
+        (((ONE,),), (HALF,)), (((NIL, 1), (ONE, NIL)), (HALF, HALF)), ((0, 0), (HALF, HALF)),
+        (nine[0] + (nine[0][0],), nine[1] + (NIL,)),
+        (tuple(row + (NIL,) for row in nine[0] + (nine[0][0],)), nine[1] + (NIL,)),
+        (PALS, HALF), (PALS[1], PALS[0]), "ab", ("ab", "ab"), (b"ab", b"ab"), deep(60),
+    ]
+    for bad in ((2, 4), (0, 2), (1, 0), (0, 0), (1, -1), (-1, -2), (1,), (1, 2, 3), [1, 2], True, 1, None, "12",
+                (True, 1), (1, True), (False, 1), (1, None), ("1", "2"), ((1, 2), 1), {1, 2}, b"12"):
+        wrong.append((((NIL, bad), (ONE, NIL)), (HALF, HALF)))
+        wrong.append((PALS[0], (HALF, bad)))
+        wrong.append((((bad,),), (HALF,)))
+    return wrong + list(STRANGE)
+
+
+def wrong_states(many):
+    """Values that are no states of so many cells."""
+    right = (0, 1) * 4
+    right = right[:many]
+    wrong = [(), right + (0,), right[1:], list(right), "01"[:many], b"01"[:many], right[1:] + (2,), right[1:] + (-1,),
+             right[1:] + (None,), right[1:] + ("0",), right[1:] + (True,), (False,) + right[1:], right[1:] + ((0,),)]
+    return wrong + list(STRANGE)
+
+
+def wrong_cells(many):
+    return [many, many + 1, -1, -many, (0,), [0], "0", b"0"] + [value for value in STRANGE if value != -1]
+
+
+def assert_raises(test, kind, attribute, given, call, *values, **named):
+    """The call raises just this class, and its attribute is what was given."""
+    with test.assertRaises(ValueError) as caught:
+        call(*values, **named)
+    test.assertEqual(caught.exception.__class__.__name__, kind.__name__)
+    test.assertIs(caught.exception.__class__, kind)
+    if attribute is None:
+        test.assertEqual(vars(caught.exception), {})
+    else:
+        told = getattr(caught.exception, attribute)
+        test.assertTrue(told is given or told == given, (told, given))
+
+
+def assert_refused(test, kind, attribute, given, call, values):
+    """The call raises so with its arguments by position and by name."""
+    assert_raises(test, kind, attribute, given, call, *values)
+    names = list(inspect.signature(call).parameters)
+    assert_raises(test, kind, attribute, given, call, **dict(zip(names, values)))
+
+
+def assert_signature(test, call, names):
+    """The call takes just these parameters, each of them by position and by name."""
+    parameters = inspect.signature(call).parameters
+    test.assertEqual(list(parameters), names.split())
+    for parameter in parameters.values():
+        test.assertEqual(parameter.kind, inspect.Parameter.POSITIONAL_OR_KEYWORD)
+        test.assertIs(parameter.default, inspect.Parameter.empty)

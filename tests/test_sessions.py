@@ -1,0 +1,20 @@
+"""The sessions of the document run as they stand there."""
+import unittest
+
+from tests.sessions import HEIGHTS, NETS, run_session
+
+LANDED = (NETS, HEIGHTS)
+
+
+class Sessions(unittest.TestCase):
+    def test_sessions_go_on_from_one_to_the_next(self):
+        known = {}
+        for session in LANDED:
+            self.assertEqual(run_session(session, known), [])
+
+    def test_a_wrong_answer_would_be_told(self):
+        self.assertEqual(run_session(">>> 1 + 1\n3\n", {}), [(">>> 1 + 1", "2")])
+
+
+if __name__ == "__main__":
+    unittest.main()
