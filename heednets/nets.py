@@ -1,6 +1,6 @@
 """Nets, their cells and states, what cells hear and want, moves and rests."""
 from heednets.errors import InvalidCell, InvalidNet, InvalidNumber, InvalidState
-from heednets.ratios import are_fractions, as_wholes, is_whole, ratio
+from heednets.ratios import are_fractions, is_whole, sum_of
 from heednets.states import as_number, as_state, as_states, is_state_of
 from heednets.wants import movers_in, next_numbers
 
@@ -69,8 +69,7 @@ def heard(net, cell, state):
     check_net(net)
     check_cell(net, cell)
     check_state(net, state)
-    heeds, times = as_wholes(net[0][cell])
-    return ratio(sum([heed * on for heed, on in zip(heeds, state)]), times)
+    return sum_of([heed for heed, on in zip(net[0][cell], state) if on])
 
 
 def wanted(net, state):

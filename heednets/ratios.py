@@ -33,3 +33,21 @@ def as_wholes(fractions):
     for _, below in fractions:
         times = lcm(times, below)
     return [above * (times // below) for above, below in fractions], times
+
+
+def sum_of(fractions):
+    wholes, times = as_wholes(fractions)
+    return ratio(sum(wholes), times)
+
+
+def least_of(fractions):
+    wholes, times = as_wholes(fractions)
+    return ratio(min(wholes), times)
+
+
+def product_of(fractions):
+    above, below = 1, 1
+    for part in fractions:
+        above *= part[0]
+        below *= part[1]
+    return ratio(above, below)

@@ -2,7 +2,7 @@
 import inspect
 import random
 from fractions import Fraction
-from itertools import product
+from itertools import permutations, product
 
 NIL, ONE, TWO, HALF, LESS = (0, 1), (1, 1), (2, 1), (1, 2), (-1, 1)
 PALS = (((NIL, ONE), (ONE, NIL)), (HALF, HALF))
@@ -19,6 +19,20 @@ def deep(levels):
     for _ in range(levels):
         value = (value,)
     return value
+
+
+class Alike:
+    """Equal to everything, so never to be taken for what it is compared with."""
+
+    def __eq__(self, other):
+        return True
+
+
+class Touchy:
+    """Not to be compared at all."""
+
+    def __eq__(self, other):
+        raise RuntimeError("compared")
 
 
 # Nothing of this is a net, a state, a cell, a number, a row of cells, heights, a round or scales.
@@ -184,3 +198,111 @@ def assert_signature(test, call, names):
     for parameter in parameters.values():
         test.assertEqual(parameter.kind, inspect.Parameter.POSITIONAL_OR_KEYWORD)
         test.assertIs(parameter.default, inspect.Parameter.empty)
+
+
+def all_rings(net):
+    """All rows of three or more unlike cells."""
+    many = len(net[1])
+    return [cells for length in range(3, many + 1) for cells in permutations(range(many), length)]
+
+
+def pair_speaks(net, cell, other):
+    signs = [(heed[0] > 0) - (heed[0] < 0) for heed in (net[0][cell][other], net[0][other][cell])]
+    return cell < other and signs[0] != signs[1]
+
+
+def ring_speaks(net, cells):
+    there = back = Fraction(1)
+    for cell, behind in zip(cells, cells[1:] + cells[:1]):
+        there *= number(net[0][cell][behind])
+        back *= number(net[0][behind][cell])
+    return 0 not in (there, back) and there != back
+
+
+def something_speaks(net):
+    many = len(net[1])
+    return (any(pair_speaks(net, i, j) for i in range(many) for j in range(many))
+            or any(ring_speaks(net, cells) for cells in all_rings(net)))
+
+
+def fits_scales(net, scales):
+    """Whether Fractions are scales for the net."""
+    many = len(net[1])
+    return min(scales) > 0 and all(scales[i] * number(net[0][i][j]) == scales[j] * number(net[0][j][i])
+                                   for i in range(many) for j in range(many))
+
+
+def part_of(net, cell):
+    """The cells that hang together with a cell, as a set."""
+    seen, waiting = {cell}, [cell]
+    while waiting:
+        at = waiting.pop()
+        for other in range(len(net[1])):
+            if other not in seen and (net[0][at][other] != NIL or net[0][other][at] != NIL):
+                seen.add(other)
+                waiting.append(other)
+    return seen
+
+
+def scales_of(net):
+    """The told scales as Fractions, found part by part; None."""
+    if something_speaks(net):
+        return None
+    many = len(net[1])
+    scales = [Fraction(1) if min(part_of(net, cell)) == cell else None for cell in range(many)]
+    while None in scales:
+        for i in range(many):
+            for j in range(many):
+                if scales[i] is not None and scales[j] is None and net[0][i][j] != NIL:
+                    scales[j] = scales[i] * number(net[0][i][j]) / number(net[0][j][i])
+    return scales
+
+
+def spare_by_all(net, cell):
+    overs = [hears(net, cell, state) - number(net[1][cell]) for state in states_of(len(net[1]))]
+    return min((over for over in overs if over > 0), default=None)
+
+
+def steps_by_all(net):
+    spares = [spare_by_all(net, cell) for cell in range(len(net[1]))]
+    return [Fraction(1) if spare is None else spare / 2 for spare in spares]
+
+
+def lifted_by_all(net):
+    return [number(mark) + step for mark, step in zip(net[1], steps_by_all(net))]
+
+
+def energy_by_all(net, scales, state):
+    """The energy by its words."""
+    many, marks = len(state), lifted_by_all(net)
+    on = [cell for cell in range(many) if state[cell] == 1]
+    ties = sum((scales[i] * number(net[0][i][j]) for i in on for j in on), Fraction(0))
+    return sum((scales[i] * marks[i] for i in on), Fraction(0)) - ties / 2
+
+
+def drop_by_all(net, scales):
+    return min(scale * step for scale, step in zip(scales, steps_by_all(net)))
+
+
+def level_by_all(net, scales, other, state):
+    """The level by its words."""
+    many, marks = len(state), lifted_by_all(net)
+    total = sum((scales[i] * marks[i] for told in (other, state) for i in range(many) if told[i] == 1), Fraction(0))
+    return total - sum((scales[i] * number(net[0][i][j]) for i in range(many) for j in range(many)
+                        if other[i] == 1 and state[j] == 1), Fraction(0))
+
+
+def tail_and_ring_by_all(step, state):
+    """The states from a state on by a step, up to the first that would come again."""
+    told = [state]
+    while step(told[-1]) not in told:
+        told.append(step(told[-1]))
+    at = told.index(step(told[-1]))
+    return tuple(told[:at]), tuple(told[at:])
+
+
+def pass_by_all(net, state, order):
+    for cell in order:
+        if wants(net, state)[cell] != state[cell]:
+            state = flipped(state, cell)
+    return state

@@ -21,6 +21,44 @@ HEIGHTS = """
 [True, False, False]
 """
 
+SCALES = """
+>>> from heednets.scales import are_scales, is_even, scales_or_against, speaks_against
+>>> lame = (((nil, two), (one, nil)), (half, half))
+>>> turn = (((nil, two, one), (one, nil, one), (one, one, nil)), (half, half, half))
+>>> [is_even(pals), is_even(lame), scales_or_against(lame), are_scales(lame, (two, (4, 1))), are_scales(lame, (one, one)), scales_or_against(chase)]
+[True, False, ('scales', ((1, 1), (2, 1))), True, False, ('pair', (0, 1))]
+>>> [scales_or_against(turn)[0], speaks_against(turn, ("ring", (0, 1, 2))), speaks_against(turn, ("pair", (0, 1))), speaks_against(pals, ("ring", (0, 1)))]
+['ring', True, False, False]
+"""
+
+ENERGY = """
+>>> from heednets.energy import drop, energy, lifted, most_by_energy, spare
+>>> [spare(pals, 0), lifted(pals)[1], [energy(pals, state_of(pals, k)) for k in range(4)], drop(pals), most_by_energy(pals)]
+[(1, 2), ((3, 4), (3, 4)), [(0, 1), (3, 4), (3, 4), (1, 2)], (1, 4), 3]
+>>> energy(chase, (0, 0))
+raises NotScaled()
+"""
+
+ATONCE = """
+>>> from heednets.atonce import level, most_steps, rings, run, swings
+>>> wheel = (((nil, nil, (-1, 1)), (one, nil, nil), (nil, one, nil)), ((-1, 2), half, half))
+>>> [run(pals, (1, 0)), run(pals, (1, 1)), swings(pals), rings(pals)]
+[((), ((1, 0), (0, 1))), ((), ((1, 1),)), (((1, 0), (0, 1)),), (((0, 0),), ((1, 0), (0, 1)), ((1, 1),))]
+>>> [run(wheel, (0, 0, 0)), len(rings(wheel)), swings(wheel)]
+[((), ((0, 0, 0), (1, 0, 0), (1, 1, 0), (1, 1, 1), (0, 1, 1), (0, 0, 1))), 2, (((0, 1, 0), (1, 0, 1)),)]
+>>> [level(pals, (0, 1), (1, 0)), level(pals, (1, 1), (1, 1)), most_steps(pals, (1, 0))]
+[(1, 2), (1, 1), 2]
+>>> level(wheel, (0, 0, 0), (0, 0, 0))
+raises NotScaled()
+"""
+
+# Of the session under heednets/dice.py: what needs heednets/orders.py alone.
+ORDERS = """
+>>> from heednets.orders import behind_row, is_row, order_run, pass_behind
+>>> [pass_behind(pals, (1, 0), (0, 1)), pass_behind(pals, (1, 0), (1, 0)), order_run(pals, (1, 0), (0, 1)), is_row(pals, (1, 0), (0, 1)), behind_row(pals, (1, 0), (1,))]
+[(0, 0), (1, 1), (((1, 0),), ((0, 0),)), False, (1, 1)]
+"""
+
 
 def run_session(text, known):
     """Runs a session with the names known so far; tells each place where another answer came."""

@@ -4,9 +4,9 @@ from fractions import Fraction
 
 from heednets.errors import InvalidCell, InvalidNet, InvalidNumber, InvalidState
 from heednets.nets import (heard, is_net, is_rest, is_state, moved, movers, number_of, rests, state_of, wanted)
-from tests.helper import (BOLD, CHASE, HALF, NIL, ONE, PALS, SHY, STRANGE, WHEEL, assert_refused, assert_signature,
-                          deep, flipped, hears, net_from, pair, quiet, sample_nets, states_of, wants, wrong_cells,
-                          wrong_nets, wrong_states)
+from tests.helper import (BOLD, CHASE, HALF, NIL, ONE, PALS, SHY, STRANGE, WHEEL, Alike, Touchy, assert_refused,
+                          assert_signature, deep, flipped, hears, net_from, pair, quiet, sample_nets, states_of,
+                          wants, wrong_cells, wrong_nets, wrong_states)
 
 NETS = sample_nets(6, 40)
 
@@ -36,6 +36,19 @@ class IsNet(unittest.TestCase):
         great = 10 ** 399 + 1
         self.assertIs(is_net((((NIL, (great, great + 1)), ((-great, 3), NIL)), ((1, great), NIL))), True)
         self.assertIs(is_net((((NIL, (2 * great, 4)), (ONE, NIL)), (HALF, HALF))), False)
+
+    def test_values_that_only_seem_to_be_alike(self):
+        for value in (Alike(), Touchy()):
+            for net in (value, (value, value), ((value,), (HALF,)), (((value,),), (HALF,)), (((NIL,),), (value,)),
+                        ((((value, 1),),), (HALF,)), (((NIL,),), ((1, value),))):
+                self.assertIs(is_net(net), False)
+            self.assertIs(is_state(PALS, (0, value)), False)
+            with self.assertRaises(InvalidNumber) as caught:
+                state_of(PALS, value)
+            self.assertIs(caught.exception.given, value)
+            with self.assertRaises(InvalidCell) as caught:
+                moved(PALS, (1, 0), value)
+            self.assertIs(caught.exception.given, value)
 
     def test_a_net_is_told_once_more(self):
         self.assertEqual(is_net(PALS), is_net(PALS))
