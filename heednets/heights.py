@@ -25,6 +25,12 @@ def longest_rows(nexts):
     return longest
 
 
+def by_height(longest):
+    """The states from which each row of moves ends, least heights first."""
+    known = [number for number, most in enumerate(longest) if most is not None]
+    return sorted(known, key=lambda number: longest[number])
+
+
 def round_without_end(nexts, longest):
     """The numbers of a round's states, if from some states there is no end to moves."""
     endless = [number for number, most in enumerate(longest) if most is None]

@@ -37,6 +37,13 @@ def check_state(net, state):
         raise InvalidState(state)
 
 
+def check_rest(net, state):
+    check_state(net, state)
+    number = as_number(state)
+    if next_numbers(net)[number] != number:
+        raise InvalidState(state)
+
+
 def check_cell(net, cell):
     if not is_cell_of(len(net[1]), cell):
         raise InvalidCell(cell)

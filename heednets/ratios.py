@@ -40,6 +40,11 @@ def sum_of(fractions):
     return ratio(sum(wholes), times)
 
 
+def mean_of(fractions):
+    wholes, times = as_wholes(fractions)
+    return ratio(sum(wholes), times * len(wholes))
+
+
 def least_of(fractions):
     wholes, times = as_wholes(fractions)
     return ratio(min(wholes), times)

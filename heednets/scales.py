@@ -1,6 +1,7 @@
 """Scales, by which the cells of a net heed one another alike, and what speaks against them."""
 from heednets.nets import check_net, is_cell_of
 from heednets.ratios import are_fractions, product_of, ratio
+from heednets.ways import way_back
 
 
 def sign(fraction):
@@ -66,14 +67,6 @@ def grown_scales(net):
 def scale_behind(scale, heed, back):
     """The scale of a cell that is heeded by one with a known scale, and heeds it back with the same sign."""
     return ratio(scale[0] * abs(heed[0]) * back[1], scale[1] * heed[1] * abs(back[0]))
-
-
-def way_back(aheads, cell):
-    """The cells from this one back to the first one of its part."""
-    way = [cell]
-    while aheads[way[-1]] is not None:
-        way.append(aheads[way[-1]])
-    return way
 
 
 def ring_through(aheads, cell, other):

@@ -13,6 +13,11 @@ def as_number(state):
     return sum([1 << cell for cell, on in enumerate(state) if on])
 
 
+def cells_on(number):
+    """The cells that are on in the state with a number, ascending."""
+    return [cell for cell in range(number.bit_length()) if (number >> cell) & 1]
+
+
 def as_state(number, many):
     return tuple([(number >> cell) & 1 for cell in range(many)])
 

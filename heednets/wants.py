@@ -1,5 +1,6 @@
 """What the cells of a net want, in tables over all its states, by their numbers."""
 from heednets.ratios import as_wholes
+from heednets.states import cells_on
 
 
 def sums_by_number(row):
@@ -33,8 +34,7 @@ def next_numbers(net):
 
 def movers_in(nexts, number):
     """The cells that want to be what they are not, ascending."""
-    unlike = nexts[number] ^ number
-    return [cell for cell in range(unlike.bit_length()) if (unlike >> cell) & 1]
+    return cells_on(nexts[number] ^ number)
 
 
 def moves_from(nexts, number):

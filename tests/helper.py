@@ -306,3 +306,48 @@ def pass_by_all(net, state, order):
         if wants(net, state)[cell] != state[cell]:
             state = flipped(state, cell)
     return state
+
+
+# Cells 0 and 1 chase one another until cell 2, which may go on beside cell 0, holds cell 0 on: a round, and one end.
+CAUGHT = net_from([[0, 1, 5], [-1, 0, 0], [1, 0, 0]], ["1/2", "-1/2", "1/2"])
+# Cell 2 holds cell 0 on until it goes off for good; then cells 0 and 1 chase one another.
+FREED = net_from([[0, 1, 5], [-1, 0, 0], [0, 0, 0]], ["1/2", "-1/2", 0])
+
+
+def rests_by_all(net):
+    return [state for state in states_of(len(net[1])) if wants(net, state) == state]
+
+
+def ends_by_all(net, state):
+    """All rests that are come to, ascending by their numbers."""
+    return [rest for rest in rests_by_all(net) if rest in reach(net, state)]
+
+
+def is_open_by_all(net, state):
+    return len(ends_by_all(net, state)) > 1 or any(on_a_round(net, met) for met in reach(net, state))
+
+
+def random_helping(rng, many):
+    """A net without weights below 0, many of them 0."""
+    rows = [[0 if i == j else rng.choice([0, 0, Fraction(1, 2), 1, 2]) for j in range(many)] for i in range(many)]
+    return net_from(rows, [rng.choice([Fraction(-1, 2), 0, Fraction(1, 2), 1, Fraction(3, 2), 2]) for _ in range(many)])
+
+
+def wrong_rests(net):
+    """States that are no rests of the net, and what is no state."""
+    states = states_of(len(net[1]))
+    return [state for state in states if wants(net, state) != state] + wrong_states(len(net[1]))
+
+
+def wrong_lots(many):
+    """Pairs of a value that is no ascending tuple of so many cells and the index that is told."""
+    last = many - 1
+    wrong = [([], None), ([0], None), ({0}, None), ({0: 1}, None), (range(1), None), ("0", None), (0, None),
+             ((many,), 0), ((-1,), 0), ((0, 0), 1), ((last, last), 1), ((0, many), 1), ((0, -1), 1), ((True,), 0),
+             ((False,), 0), ((0, True), 1), ((0, None), 1), ((None, 0), 0), (((0,),), 0), ((0, (1,)), 1), (("0",), 0),
+             ((b"",), 0), ((many, 0), 0), (tuple(range(many + 1)), many), (tuple(range(many)) * 2, many)]
+    if many > 1:
+        wrong += [((1, 0), 1), ((0, last, 0), 2), ((last, 0, many), 1)]
+    if many > 2:
+        wrong += [((0, 2, 1), 2), ((1, 2, 2), 2), ((2, 1, 0), 1)]
+    return wrong + [(value, 0 if isinstance(value, tuple) else None) for value in STRANGE if value != ()]

@@ -52,11 +52,26 @@ ATONCE = """
 raises NotScaled()
 """
 
-# Of the session under heednets/dice.py: what needs heednets/orders.py alone.
-ORDERS = """
+DICE = """
+>>> from heednets.dice import end_chances, mean_moves
+>>> from heednets.ends import come_to, ends, fold, is_sure, round_at, row_to
 >>> from heednets.orders import behind_row, is_row, order_run, pass_behind
 >>> [pass_behind(pals, (1, 0), (0, 1)), pass_behind(pals, (1, 0), (1, 0)), order_run(pals, (1, 0), (0, 1)), is_row(pals, (1, 0), (0, 1)), behind_row(pals, (1, 0), (1,))]
 [(0, 0), (1, 1), (((1, 0),), ((0, 0),)), False, (1, 1)]
+>>> [come_to(pals, (1, 0)), ends(pals, (1, 0)), is_sure(pals, (1, 0)), row_to(pals, (1, 0), (1, 1)), round_at(pals, (1, 0)), fold(pals, (1, 1))]
+[((0, 0), (1, 0), (1, 1)), ((0, 0), (1, 1)), False, (1,), None, ((1, 1),)]
+>>> [end_chances(pals, (1, 0)), mean_moves(pals, (1, 0)), end_chances(wheel, (0, 0, 0)), len(round_at(chase, (0, 0)))]
+[(((0, 0), (1, 2)), ((1, 1), (1, 2))), (1, 1), None, 4]
+"""
+
+# Of the session under heednets/helping.py: what needs nothing of heednets/coming.py. The friends are the pals.
+HELPING = """
+>>> from heednets.helping import does_light, fewest, greatest_rest, is_helping, is_stubborn, least_rest, least_seeds, rest_above, spread, stubborn_lots
+>>> friends = pals
+>>> [is_helping(friends), spread(friends, ()), spread(friends, (1,)), does_light(friends, (0,)), is_stubborn(friends, (0, 1)), is_stubborn(friends, (0,)), stubborn_lots(friends), fewest(friends)]
+[True, (), (0, 1), True, True, False, ((0, 1),), ((0,), (1,))]
+>>> [least_rest(friends), greatest_rest(friends), rest_above(friends, (0, 0), (1, 1)), least_seeds(friends)]
+[(0, 0), (1, 1), (1, 1), ((0,), (1,))]
 """
 
 
