@@ -31,15 +31,14 @@ def by_height(longest):
     return sorted(known, key=lambda number: longest[number])
 
 
-def round_without_end(nexts, longest):
-    """The numbers of a round's states, if from some states there is no end to moves."""
-    endless = [number for number, most in enumerate(longest) if most is None]
-    # From such a state some move leads to such a state, so going on among them comes back.
+def endless_walk(nexts, longest, number):
+    """The states of moves without end from a state that lets them: once on the way, and again and again."""
     behind = {}
-    for number in endless:
-        behind[number] = [lead for lead in moves_from(nexts, number) if longest[lead] is None][0]
-    _, ring = tail_and_ring(behind, endless[0])
-    return ring
+    for known, most in enumerate(longest):
+        if most is None:
+            # From such a state some move leads to such a state, so going on among them comes back.
+            behind[known] = [lead for lead in moves_from(nexts, known) if longest[lead] is None][0]
+    return tail_and_ring(behind, number)
 
 
 def heights_or_round(net):
@@ -48,7 +47,8 @@ def heights_or_round(net):
     nexts = next_numbers(net)
     longest = longest_rows(nexts)
     if None in longest:
-        return ("round", as_states(round_without_end(nexts, longest), len(net[1])))
+        _, ring = endless_walk(nexts, longest, longest.index(None))
+        return ("round", as_states(ring, len(net[1])))
     return ("heights", tuple(longest))
 
 

@@ -13,6 +13,7 @@ def is_helping(net):
 
 
 def check_helping(net):
+    """Lets pass nets that are helping, and nothing else."""
     if not is_helping(net):
         raise NotHelping()
 
@@ -70,7 +71,6 @@ def is_stubborn(net, lot):
 
 def stubborn_lots(net):
     """The stubborn lots that have no stubborn lot within them, ascending."""
-    check_net(net)
     check_helping(net)
     nexts = next_numbers(net)
     return as_lots(least_numbers([number for number in range(1, len(nexts)) if does_stay_off(nexts, number)]))
@@ -78,7 +78,6 @@ def stubborn_lots(net):
 
 def least_seeds(net):
     """The lots that light all cells, and do not without any one of their cells, ascending."""
-    check_net(net)
     check_helping(net)
     return as_lots(least_numbers(lighting_numbers(next_numbers(net))))
 
@@ -92,14 +91,12 @@ def fewest(net):
 
 def least_rest(net):
     """The rest that has on no cell beyond those of any other one."""
-    check_net(net)
     check_helping(net)
     return as_state(grown(next_numbers(net), 0), len(net[1]))
 
 
 def greatest_rest(net):
     """The rest that has on all cells of any other one."""
-    check_net(net)
     check_helping(net)
     nexts = next_numbers(net)
     return as_state(shrunk(nexts, len(nexts) - 1), len(net[1]))

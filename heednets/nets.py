@@ -44,9 +44,13 @@ def check_rest(net, state):
         raise InvalidState(state)
 
 
-def check_cell(net, cell):
-    if not is_cell_of(len(net[1]), cell):
+def check_cell_of(many, cell):
+    if not is_cell_of(many, cell):
         raise InvalidCell(cell)
+
+
+def check_cell(net, cell):
+    check_cell_of(len(net[1]), cell)
 
 
 def is_state(net, value):

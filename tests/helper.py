@@ -351,3 +351,83 @@ def wrong_lots(many):
     if many > 2:
         wrong += [((0, 2, 1), 2), ((1, 2, 2), 2), ((2, 1, 0), 1)]
     return wrong + [(value, 0 if isinstance(value, tuple) else None) for value in STRANGE if value != ()]
+
+
+def random_pictures(rng, many, count):
+    states = states_of(many)
+    return tuple(states[at] for at in sorted(rng.sample(range(len(states)), count)))
+
+
+def wrong_pictures(many):
+    """Pairs of a value that is no tuple of one to eight states of so many cells and the index that is told."""
+    dark, last, lit = (0,) * many, (0,) * (many - 1) + (1,), (1,) * many
+    wrong = [((), None), ([dark], None), ([dark, lit], None), ({dark: 1}, None), (dark + dark, None if many > 4 else 0),
+             (tuple(states_of(4)[:9]), None), ((dark,) * 9, None), ((None,) * 9, None),
+             ((dark, dark), 1), ((lit, dark), 1), ((last, last), 1), ((dark, lit, lit), 2), ((dark, lit, dark), 2),
+             (((),), 0), (((), dark), 0), ((dark, ()), 1), ((dark, (0,) * (many + 1)), 1),
+             ((dark, lit + (1,)), 1), ((dark, lit[1:]), 1), ((dark, list(lit)), 1), ((list(dark), lit), 0),
+             ((dark, "1" * many), 1), (("0" * many,), 0), ((dark, None), 1), ((None, dark), 0), ((dark, 1), 1),
+             ((dark[1:] + (False,), lit), 0), ((dark, lit[1:] + (True,)), 1), ((dark, lit[1:] + (2,)), 1),
+             ((lit[1:] + (-1,),), 0), ((dark, (dark,)), 1), ((dark, None, dark), 1), ((dark, lit, None), 2),
+             (((0,) * 9,), 0), (((0,) * 9, (1,) * 9), 0), (deep(50), 0)]
+    if many > 1:
+        # By their numbers, not as tuples: cell 0 alone is 1, the last cell alone is more.
+        first = (1,) + (0,) * (many - 1)
+        wrong += [((last, first), 1), ((dark, last, first), 2), ((first, last, first), 2)]
+    return wrong + [(value, 0 if isinstance(value, tuple) else None) for value in STRANGE if value != ()]
+
+
+def side_in(picture, cell):
+    return 1 if picture[cell] == 1 else -1
+
+
+def margin_by_all(net, pictures):
+    return min(side_in(picture, cell) * (hears(net, cell, picture) - number(net[1][cell]))
+               for picture in pictures for cell in range(len(picture)))
+
+
+def keeps_by_all(net, pictures):
+    return all(wants(net, picture) == picture for picture in pictures)
+
+
+def are_blames_by_all(pictures, rows):
+    """Whether rows of Fractions are blames of the pictures."""
+    cells = range(len(pictures[0]))
+    return (all(blame >= 0 for row in rows for blame in row) and sum(sum(row) for row in rows) == 1
+            and all(sum(side_in(picture, cell) * row[cell] for picture, row in zip(pictures, rows)) == 0
+                    for cell in cells))
+
+
+def bound_by_all(pictures, rows):
+    """The bound of blames by its words."""
+    total, many = Fraction(0), len(pictures[0])
+    for one in range(many):
+        for other in range(one + 1, many):
+            total += abs(sum(side_in(picture, one) * row[one] * picture[other]
+                             + side_in(picture, other) * row[other] * picture[one]
+                             for picture, row in zip(pictures, rows)))
+    return total
+
+
+# Some net keeps these, but none with scales.
+LOPSIDED = ((1, 1, 0, 0, 1, 0, 0), (0, 0, 1, 0, 0, 1, 0), (1, 0, 0, 0, 1, 1, 0), (1, 0, 1, 1, 1, 1, 0),
+            (1, 1, 0, 1, 0, 0, 1), (0, 0, 1, 0, 1, 0, 1), (0, 1, 1, 0, 0, 1, 1), (0, 1, 0, 0, 1, 1, 1))
+# So with eight cells.
+GREAT = ((0, 0, 0, 0, 1, 0, 0, 0), (0, 0, 1, 0, 0, 0, 1, 0), (0, 0, 0, 1, 1, 1, 1, 0), (0, 0, 0, 1, 1, 0, 0, 1),
+         (1, 0, 1, 1, 1, 1, 0, 1), (0, 0, 1, 0, 1, 0, 1, 1), (0, 0, 1, 0, 0, 1, 1, 1), (1, 0, 0, 1, 1, 1, 1, 1))
+# Eight pictures of eight cells, the first cells on: no, one, two .. of them.
+STAIRS = tuple((1,) * step + (0,) * (8 - step) for step in range(8))
+ALIKE, UNLIKE = ((0, 0), (1, 1)), ((0, 0), (1, 0), (0, 1), (1, 1))
+
+
+def sample_pictures(seed, times):
+    """Pictures of one to eight cells, one to eight of them; the same ones each time."""
+    rng = random.Random(seed)
+    made = [ALIKE, UNLIKE, LOPSIDED, GREAT, STAIRS, ((0,),), ((1,),), ((0,), (1,)), ((1,) * 8,), ((0,) * 8, (1,) * 8),
+            # Two that differ in one cell; cells alike in all pictures, on or off.
+            ((0, 1, 0, 1), (1, 1, 0, 1)), ((1, 0, 0, 1), (0, 1, 0, 1)), ((1, 0, 0, 1), (0, 1, 0, 1), (1, 1, 0, 1)),
+            tuple(tuple(1 if cell == lit else 0 for cell in range(8)) for lit in range(8))]
+    for _ in range(times):
+        many = rng.randint(1, 8)
+        made.append(random_pictures(rng, many, rng.randint(1, min(8, 2 ** many))))
+    return made

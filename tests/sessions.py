@@ -64,14 +64,43 @@ DICE = """
 [(((0, 0), (1, 2)), ((1, 1), (1, 2))), (1, 1), None, 4]
 """
 
-# Of the session under heednets/helping.py: what needs nothing of heednets/coming.py. The friends are the pals.
+FENCES = """
+>>> from heednets.fences import any_net, fence, two_mixes
+>>> from heednets.keeping import bound_of, does_keep, keeping_net, margin, widest
+>>> one, half, nil, less = (1, 1), (1, 2), (0, 1), (-1, 1)
+>>> alike, unlike = ((0, 0), (1, 1)), ((0, 0), (1, 0), (0, 1), (1, 1))
+>>> friends = (((nil, one), (one, nil)), (half, half))
+>>> [does_keep(friends, alike), margin(friends, alike), does_keep(friends, unlike), margin(friends, unlike), widest(alike)[0], widest(unlike)[0]]
+[True, (1, 2), False, (-1, 2), (1, 2), (0, 1)]
+>>> quarter = (1, 4)
+>>> [bound_of(alike, ((quarter, quarter), (quarter, quarter))), bound_of(alike, ((half, nil), (nil, half))), does_keep(keeping_net(alike), alike), keeping_net(unlike), any_net(unlike)]
+[(1, 2), None, True, None, None]
+>>> [two_mixes(unlike, 0) is None, two_mixes(alike, 0), fence(unlike, 0), two_mixes(((0, 1), (1, 1)), 0)]
+[False, None, None, (((0, 1), (1, 1)), ((1, 1), (0, 1)))]
+"""
+
 HELPING = """
+>>> from heednets.coming import does_come_back, radius, row_away
 >>> from heednets.helping import does_light, fewest, greatest_rest, is_helping, is_stubborn, least_rest, least_seeds, rest_above, spread, stubborn_lots
->>> friends = pals
+>>> [radius(friends, (0, 0)), does_come_back(friends, (0, 0), 1), row_away(friends, (0, 0), 1)[-1], row_away(friends, (0, 0), 0)]
+[0, False, (1, 1), None]
 >>> [is_helping(friends), spread(friends, ()), spread(friends, (1,)), does_light(friends, (0,)), is_stubborn(friends, (0, 1)), is_stubborn(friends, (0,)), stubborn_lots(friends), fewest(friends)]
 [True, (), (0, 1), True, True, False, ((0, 1),), ((0,), (1,))]
 >>> [least_rest(friends), greatest_rest(friends), rest_above(friends, (0, 0), (1, 1)), least_seeds(friends)]
 [(0, 0), (1, 1), (1, 1), ((0,), (1,))]
+"""
+
+ALBUMS = r"""
+>>> from heednets.albums import album_text, is_album, is_name, read_album
+>>> alike = ((1, 2), pals, (("left", (1, 0)),))
+>>> [is_album(alike), is_album(((2, 2), pals, ())), is_name("cell"), is_name("left"), album_text(alike)]
+[True, False, False, True, 'board 1 2\ncell 0 1 1/2\ncell 1 0 1/2\npicture left\n#.\n']
+>>> [read_album(album_text(alike)) == alike, read_album("board 1 1\ncell 0 -1/2\n")]
+[True, ((1, 1), ((((0, 1),),), ((-1, 2),)), ())]
+>>> read_album("board 1 2\ncell 0 1 1/2\ncell 1 1 1/2\n")
+raises InvalidText(2)
+>>> read_album("board 1 2\ncell 0 1 1/2\n")
+raises InvalidText(2)
 """
 
 

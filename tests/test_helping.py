@@ -8,7 +8,7 @@ from heednets.helping import (does_light, fewest, greatest_rest, is_helping, is_
                               rest_above, spread, stubborn_lots)
 from heednets.nets import is_rest, rests
 from tests.helper import (BOLD, CHASE, LESS, NIL, PALS, SHY, TURN, WHEEL, assert_refused, assert_signature, flipped,
-                          hears, net_from, number, quiet, random_helping, rests_by_all, sample_nets, states_of, wants,
+                          hears, net_from, number, quiet, random_helping, rests_by_all, sample_nets, wants,
                           wrong_lots, wrong_nets, wrong_rests)
 
 RNG = random.Random(40)

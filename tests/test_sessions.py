@@ -1,9 +1,9 @@
 """The sessions of the document run as they stand there."""
 import unittest
 
-from tests.sessions import ATONCE, DICE, ENERGY, HEIGHTS, HELPING, NETS, SCALES, run_session
+from tests.sessions import ALBUMS, ATONCE, DICE, ENERGY, FENCES, HEIGHTS, HELPING, NETS, SCALES, run_session
 
-LANDED = (NETS, HEIGHTS, SCALES, ENERGY, ATONCE, DICE, HELPING)
+LANDED = (NETS, HEIGHTS, SCALES, ENERGY, ATONCE, DICE, FENCES, HELPING, ALBUMS)
 
 
 class Sessions(unittest.TestCase):
