@@ -2,7 +2,7 @@
 from heednets.errors import InvalidBook, InvalidText
 from heednets.nets import MOST_CELLS, is_net
 from heednets.pictures import MOST_PICTURES
-from heednets.ratios import is_whole
+from heednets.shapes import cells_of, is_shape
 from heednets.states import is_state_of
 from heednets.texts import board_rows, fraction_text, read_fraction, read_signs
 
@@ -16,10 +16,6 @@ def is_name(value):
     if not isinstance(value, str) or not 1 <= len(value) <= LONGEST_NAME:
         return False
     return all(letter in LETTERS for letter in value) and value not in WORDS
-
-
-def is_side(value):
-    return is_whole(value) and 1 <= value <= MOST_CELLS
 
 
 def is_picture(value, many):
@@ -40,9 +36,9 @@ def check_album(album):
     if not isinstance(album, tuple) or len(album) != 3:
         raise InvalidBook(None)
     shape, net, pictures = album
-    if not isinstance(shape, tuple) or len(shape) != 2 or not all(is_side(side) for side in shape):
+    if not is_shape(shape):
         raise InvalidBook(0)
-    many = shape[0] * shape[1]
+    many = cells_of(shape)
     if not is_net(net) or len(net[1]) != many:
         raise InvalidBook(1)
     if not are_pictures(pictures, many):
@@ -143,7 +139,7 @@ def read_album(text):
     # What stands behind the last line end is no row, or one that lacks its own.
     unended = rows.pop()
     shape = read_shape(rows)
-    many = shape[0] * shape[1]
+    many = cells_of(shape)
     net = read_net(rows, many)
     pictures = read_pictures(rows, 1 + many, shape)
     if unended:

@@ -15,15 +15,19 @@ def settled_from(nexts, number):
     return sorted(reached(nexts, [number]), key=lambda other: longest[other])
 
 
+def chance_row(nexts, rows, number, rests):
+    """A state's chances of the rests, by the rows of those to which its moves lead."""
+    behinds = moves_from(nexts, number)
+    if not behinds:
+        return tuple([(1, 1) if rest == number else (0, 1) for rest in rests])
+    return tuple([mean_of([rows[behind][at] for behind in behinds]) for at in range(len(rests))])
+
+
 def chance_rows(nexts, numbers, rests):
     """For each of the states, which stand least heights first, its chances of the rests."""
     rows = {}
     for number in numbers:
-        behinds = moves_from(nexts, number)
-        if behinds:
-            rows[number] = [mean_of([rows[behind][at] for behind in behinds]) for at in range(len(rests))]
-        else:
-            rows[number] = [(1, 1) if rest == number else (0, 1) for rest in rests]
+        rows[number] = chance_row(nexts, rows, number, rests)
     return rows
 
 

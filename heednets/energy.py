@@ -66,6 +66,14 @@ def doubled_energy(ties, marks, state):
     return 2 * sum_on(marks, state) - ties_between(ties, state, state)
 
 
+def most_for(net, scales):
+    """Within how many moves cells come to rest, as the energy for some scales shows."""
+    ties, marks, times = scaled_net(net, scales)
+    many = len(scales)
+    energies = [doubled_energy(ties, marks, as_state(number, many)) for number in range(1 << many)]
+    return falls_within(max(energies) - min(energies), 2 * times, least_fall(net, scales))
+
+
 def spare(net, cell):
     """The least number above 0 by which what a cell hears is above its mark; None if it never is."""
     check_net(net)
@@ -96,8 +104,4 @@ def drop(net):
 def most_by_energy(net):
     """Within how many moves cells come to rest, as the energy for the told scales shows."""
     check_net(net)
-    scales = told_scales(net)
-    ties, marks, times = scaled_net(net, scales)
-    many = len(scales)
-    energies = [doubled_energy(ties, marks, as_state(number, many)) for number in range(1 << many)]
-    return falls_within(max(energies) - min(energies), 2 * times, least_fall(net, scales))
+    return most_for(net, told_scales(net))

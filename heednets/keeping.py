@@ -3,6 +3,7 @@ from heednets.margins import widest_margin
 from heednets.nets import check_net
 from heednets.pictures import check_pictures, check_pictures_of, side_of
 from heednets.ratios import are_fractions, as_wholes, least_of, ratio, sum_of
+from heednets.scales import is_even
 from heednets.states import as_number
 from heednets.wants import heard_less_mark, next_numbers
 
@@ -64,6 +65,11 @@ def pair_sum(pictures, rows, cell, other):
         total += side_of(picture, cell) * row[cell] * picture[other]
         total += side_of(picture, other) * row[other] * picture[cell]
     return total
+
+
+def is_mild(net):
+    """Whether a net is even, its weights from -1 up to 1."""
+    return is_even(net) and all([abs(above) <= below for row in net[0] for above, below in row])
 
 
 def even_ties(many):

@@ -14,6 +14,15 @@ def check_lot(net, lot):
         ahead = cell
 
 
+def is_lot(net, value):
+    """Whether a value, whatever it is, is a lot of the net's cells."""
+    try:
+        check_lot(net, value)
+    except InvalidLot:
+        return False
+    return True
+
+
 def lot_number(lot):
     return sum([1 << cell for cell in lot])
 

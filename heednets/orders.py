@@ -20,6 +20,24 @@ def check_order(net, order):
     check_cells(net, order, 1, LONGEST_ORDER)
 
 
+def are_cells(net, value, fewest, most):
+    """Whether a value, whatever it is, is a tuple of the net's cells, from so few to so many."""
+    try:
+        check_cells(net, value, fewest, most)
+    except InvalidLot:
+        return False
+    return True
+
+
+def is_order(net, value):
+    return are_cells(net, value, 1, LONGEST_ORDER)
+
+
+def is_short_row(net, value):
+    """Whether a value, whatever it is, is a row of cells that is not too long to be looked at."""
+    return are_cells(net, value, 0, LONGEST_ROW)
+
+
 def number_behind_pass(nexts, number, order):
     for cell in order:
         if cell in movers_in(nexts, number):

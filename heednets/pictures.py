@@ -28,6 +28,15 @@ def check_pictures(pictures, fewest):
     check_states(pictures, len(first))
 
 
+def is_tuple_of_pictures(value, fewest):
+    """Whether a value, whatever it is, is a row of at least so many pictures."""
+    try:
+        check_pictures(value, fewest)
+    except InvalidPictures:
+        return False
+    return True
+
+
 def check_pictures_of(net, pictures):
     """Lets pass pictures of a net's cells."""
     check_tuple(pictures, 1)

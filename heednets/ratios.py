@@ -27,6 +27,14 @@ def ratio(above, below):
     return (above // shared, below // shared)
 
 
+def opposite(fraction):
+    return (-fraction[0], fraction[1])
+
+
+def is_above(fraction, other):
+    return fraction[0] * other[1] > other[0] * fraction[1]
+
+
 def as_wholes(fractions):
     """The fractions, all times one number above 0 that makes them whole; and this number."""
     times = 1

@@ -32,6 +32,26 @@ def next_numbers(net):
     return nexts
 
 
+def wants_on(nexts, number, cell):
+    return (nexts[number] >> cell) & 1 == 1
+
+
+def whole_rows(net):
+    """For each cell its weights, and behind them its mark, all times one number above 0 that makes them whole."""
+    weights, marks = net
+    rows = []
+    for row, mark in zip(weights, marks):
+        wholes, _ = as_wholes(row + (mark,))
+        rows.append(wholes)
+    return rows
+
+
+def next_number(rows, number):
+    """The next state of one state alone, by the whole rows of the net."""
+    on = cells_on(number)
+    return sum([1 << cell for cell, row in enumerate(rows) if sum([row[other] for other in on]) > row[-1]])
+
+
 def movers_in(nexts, number):
     """The cells that want to be what they are not, ascending."""
     return cells_on(nexts[number] ^ number)

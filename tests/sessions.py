@@ -103,6 +103,71 @@ raises InvalidText(2)
 raises InvalidText(2)
 """
 
+DEEDS = """
+>>> from heednets.deeds import behind, fits, leaves, led, next_states, turned
+>>> next_states(pals)
+((0, 0), (0, 1), (1, 0), (1, 1))
+>>> [turned(pals, (0,)), led(pals, ("turn", (0,)), (1, 1)), next_states(turned(pals, (0,)))]
+[((((0, 1), (-1, 1)), ((-1, 1), (0, 1))), ((-3, 4), (-1, 2))), (0, 1), ((1, 1), (1, 0), (0, 1), (0, 0))]
+>>> [behind(pals, ("mark", 1, one)), leaves(pals, ("mark", 1, one)), leaves(pals, ("weight", 0, 1, two)), fits(pals, ("weight", 1, 1, one)), leaves(pals, ("strike", 0))]
+[((((0, 1), (1, 1)), ((1, 1), (0, 1))), ((1, 2), (1, 1))), (0, 2), (0, 1, 2, 3), False, (0, 1)]
+>>> behind(pals, ("cell", (one, nil), (nil, two), half))
+((((0, 1), (1, 1), (0, 1)), ((1, 1), (0, 1), (2, 1)), ((1, 1), (0, 1), (0, 1))), ((1, 2), (1, 2), (1, 2)))
+"""
+
+BOOKS = """
+>>> from heednets.books import again, album_in, changed, fresh_book, nexts_in, undone, work_of
+>>> book = fresh_book(alike)
+>>> raised = changed(book, ("mark", 1, one))
+>>> [work_of(book, ("mark", 1, one)), nexts_in(raised), album_in(changed(book, ("turn", (0,))))[2], album_in(changed(book, ("strike", 1, (1, 1))))[2]]
+[(1, 3), ((0, 0), (0, 0), (1, 0), (1, 0)), (('left', (0, 0)),), (('left', (1,)),)]
+>>> [undone(raised)[0] == book[0], again(undone(raised)) == raised, album_in(changed(book, ("made",)))[1]]
+[True, True, ((((0, 1), (-1, 1)), ((-1, 1), (0, 1))), ((-1, 2), (-1, 2)))]
+>>> undone(book)
+raises NothingToUndo()
+"""
+
+FILMS = r"""
+>>> from heednets.films import drawing, read_drawing, read_rows, rows_of
+>>> film = ((1, 0, 0, 1), (0, 0, 1, 1))
+>>> [rows_of((2, 2), film), read_rows((2, 2), ('#. ..', '.# ##')) == film, read_drawing(drawing((2, 2), film), (2, 2), 2) == film]
+[('#. ..', '.# ##'), True, True]
+>>> drawing((1, 2), ((0, 1),)).split("\n")
+['<svg xmlns="http://www.w3.org/2000/svg" viewBox="0 0 30 20">', '<rect x="10" y="0" width="9" height="9"/>', '</svg>']
+>>> read_rows((2, 2), ('#. ..', '.#'))
+raises InvalidLines(1)
+"""
+
+MADE = """
+>>> from heednets.made import net_of
+>>> [net_of(((1, 0),)), net_of(((1, 0, 0), (0, 1, 1)))[0][0], net_of(((1, 0, 0), (1, 1, 0)))]
+[((((0, 1), (-1, 1)), ((-1, 1), (0, 1))), ((-1, 2), (-1, 2))), ((0, 1), (-2, 1), (-2, 1)), ((((0, 1), (0, 1), (-2, 1)), ((0, 1), (0, 1), (0, 1)), ((-2, 1), (0, 1), (0, 1))), ((-1, 1), (0, 1), (-1, 1)))]
+"""
+
+CONSOLE = r"""
+>>> from heednets.console import fresh_console, said, told_all
+>>> lines = ("album board 1 2 ; cell 0 1 1/2 ; cell 1 0 1/2 ; picture left ; #.", "take left", "wants", "move 1", "rest", "board", "rests", "scales", "falls", "mark 1 1", "undo", "step", "weight 0 0 1", "state #.", "rest")
+>>> told_all(fresh_console(), lines)[1]
+('2 cells, 1 pictures', 'at hand', '.#', '##', '0 moves: ##', '##', '..\n##', '1 1', 'always ends', 'anew: 2', 'done', 'no state', 'does not fit', 'at hand', '1 moves: ..')
+>>> [said(fresh_console(), "rests")[1], said(fresh_console(), "album board")[1], said(fresh_console(), "fly")[1]]
+['no album', 'wrong at 0', 'not understood']
+"""
+
+CHECKER = """
+>>> from heednets.checker import accepts
+>>> dark = ("turned to", pals, turned(pals, (0,)), (1, 0))
+>>> [accepts(dark, (0,)), accepts(dark, (1,)), accepts(("nexts", pals, next_states(pals)), ()), accepts(("rest", pals, (1, 0)), ()), accepts("rest", ())]
+[True, False, True, False, False]
+"""
+
+CERTIFICATES = r"""
+>>> from heednets.certificates import certify_change, certify_dark, certify_end, certify_lights, certify_nexts, certify_read, certify_scales, certify_sure, certify_within
+>>> [certify_end(pals)[0][0], certify_end(chase)[0][0], certify_scales(lame)[0][0], certify_within(pals)[0][2], certify_sure(pals, (1, 1))[0][0], certify_sure(pals, (1, 0))[0][0], certify_lights(pals, (0,))[0][0]]
+['always ends', 'goes round', 'scales', 3, 'sure', 'open', 'lights']
+>>> [certify_read("board\n"), certify_change(pals, ("strike", 2)) == (("no change", pals, ("strike", 2)), ()), certify_dark(pals, (1, 0)) == (dark, (0,)), accepts(*certify_nexts(pals))]
+[(('not read', 'board\n', 0), ()), True, True, True]
+"""
+
 
 def run_session(text, known):
     """Runs a session with the names known so far; tells each place where another answer came."""

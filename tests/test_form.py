@@ -23,10 +23,13 @@ METHODS = set(
     "append clear copy count endswith extend find get index insert isalnum isalpha isdigit islower isspace isupper "
     "items join keys ljust lower lstrip partition pop remove replace reverse rfind rjust rpartition rsplit rstrip "
     "setdefault split splitlines startswith strip update upper values zfill bit_length add discard sort __init__ "
-    "isascii isdecimal removeprefix".split())
-BARRED = ("type", "typing", "typing_extensions", "enum", "Enum", "IntEnum", "StrEnum", "Flag", "IntFlag", "Generic",
-          "Protocol", "ABC", "ABCMeta", "namedtuple", "NamedTuple", "TypedDict", "TYPE_CHECKING", "abstractmethod",
-          "register", "mro", "elements", "open", "input", "law", "version_info", "with_traceback", "add_note")
+    "isascii isdecimal removeprefix removesuffix".split())
+# These words are barred in strings, too; the names below only as names.
+WORDS = ("type", "typing", "typing_extensions", "enum", "Enum", "IntEnum", "StrEnum", "Flag", "IntFlag", "Generic",
+         "Protocol", "ABC", "ABCMeta", "namedtuple", "NamedTuple", "TypedDict", "TYPE_CHECKING", "abstractmethod")
+BARRED = WORDS + ("register", "mro", "elements", "open", "input", "law", "version_info", "with_traceback", "add_note")
+# The document has a function and a parameter of another one with this name in one file.
+NAMED_TWICE = (("films.py", "drawing"),)
 STATEMENTS = (ast.Global, ast.AsyncFor, ast.AsyncFunctionDef, ast.AsyncWith, ast.Await, ast.TryStar)
 
 
@@ -144,7 +147,8 @@ class Form(unittest.TestCase):
                 if isinstance(node, (ast.FunctionDef, ast.ClassDef)):
                     for inner in list(ast.walk(node))[1:]:
                         for word in bound_names(inner):
-                            self.assertNotIn(word, top, (path, node.name))
+                            if (os.path.basename(path), word) not in NAMED_TWICE:
+                                self.assertNotIn(word, top, (path, node.name))
 
     def test_methods_of_values(self):
         for name, node in self.nodes(ast.Call):
@@ -158,7 +162,7 @@ class Form(unittest.TestCase):
             for node in ast.walk(tree):
                 if isinstance(node, ast.Constant) and isinstance(node.value, str) and id(node) not in told:
                     for word in re.findall(r"\w+", node.value):
-                        self.assertNotIn(word, BARRED, path)
+                        self.assertNotIn(word, WORDS, path)
 
 
 def bound_names(node):

@@ -1,9 +1,11 @@
 """The sessions of the document run as they stand there."""
 import unittest
 
-from tests.sessions import ALBUMS, ATONCE, DICE, ENERGY, FENCES, HEIGHTS, HELPING, NETS, SCALES, run_session
+from tests.sessions import (ALBUMS, ATONCE, BOOKS, CERTIFICATES, CHECKER, CONSOLE, DEEDS, DICE, ENERGY, FENCES, FILMS,
+                            HEIGHTS, HELPING, MADE, NETS, SCALES, run_session)
 
-LANDED = (NETS, HEIGHTS, SCALES, ENERGY, ATONCE, DICE, FENCES, HELPING, ALBUMS)
+LANDED = (NETS, HEIGHTS, SCALES, ENERGY, ATONCE, DICE, FENCES, HELPING, ALBUMS, DEEDS, BOOKS, FILMS, MADE, CONSOLE,
+          CHECKER, CERTIFICATES)
 
 
 class Sessions(unittest.TestCase):
