@@ -122,6 +122,14 @@ class States(Certificates):
                 for other in rng.sample(states_of(8), 3) + [state]:
                     self.check(certify_leads, "net state other", (net, state, other), second=False)
 
+    def test_more_ends_than_two(self):
+        # One of three stays on, whichever it is.
+        net = net_from([[0, -1, -1], [-1, 0, -1], [-1, -1, 0]], ["-1/2"] * 3)
+        for state in ((0, 0, 0), (1, 1, 1)):
+            self.assertEqual(len(ends_by_all(net, state)), 3)
+            for call in (certify_sure, certify_ends, certify_chances):
+                self.check(call, "net state", (net, state))
+
     def test_a_state_that_comes_to_a_round_and_to_a_rest(self):
         # The one end of each state, but some come to a round.
         for net in (CAUGHT, FREED):

@@ -444,7 +444,9 @@ class Ways(Checker):
         self.no(("chances", PALS, (0, 0), (((0, 0), ONE), ((1, 1), NIL))),
                 (((0, 0), 0, (ONE, NIL)), ((1, 1), 0, (NIL, ONE))))
         self.yes(("chances", PALS, (0, 0), (((0, 0), ONE),)), (((0, 0), 0, (ONE,)),))
-        self.no(("chances", PALS, (0, 0), (((0, 0), ONE),)), (((0, 0), 0, (ONE, NIL)), ((1, 1), 0, (NIL, ONE))))
+        # The rests among the states are to be just those of the chances.
+        self.no(("chances", PALS, (0, 0), (((0, 0), ONE),)), (((0, 0), 0, (ONE, NIL)), ((1, 1), 0, (NIL, ONE))),
+                (((0, 0), 0, (ONE,)), ((1, 1), 0, (NIL,))), (((0, 0), 0, (ONE,)), ((1, 1), 0, (ONE,))))
         self.no(("chances", CHASE, (0, 0), None), (), None)
 
     def test_chances_by_all(self):
